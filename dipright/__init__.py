@@ -1,0 +1,1 @@
+"""Dipright: whose is the ore under the ground."""
