@@ -22,6 +22,9 @@ UNUSED_WORDS = """type typing typing_extensions enum Enum IntEnum StrEnum Flag I
 namedtuple NamedTuple TypedDict TYPE_CHECKING abstractmethod""".split()
 UNUSED_PARTS = ("dataclass", "overload", "contextmanager")
 DUNDER_METHODS = ("__init__", "__eq__", "__repr__", "__str__", "__len__")
+WALKED = ("zip", "enumerate", "reversed", "range")
+WALKED_METHODS = ("items", "keys", "values")
+WALKERS = ("list", "tuple", "dict", "sorted", "sum", "any", "all", "enumerate", "zip", "min", "max")
 NO_FILES = ("test", "tests", "testing", "site", "conftest", "sitecustomize", "usercustomize")
 NODES = """Module FunctionDef ClassDef Return Assign AugAssign AnnAssign For While If Raise Try ExceptHandler ImportFrom
 Import Expr Pass Break Continue BoolOp BinOp UnaryOp Lambda IfExp Dict Set ListComp comprehension Compare Call JoinedStr
@@ -47,8 +50,46 @@ class File:
         self.check_rows()
         self.check_top()
         for node in ast.walk(self.tree):
+            for inner in ast.iter_child_nodes(node):
+                inner.above = node
+        for node in ast.walk(self.tree):
             self.check_node(node)
+        self.check_locals()
         return self.breaches
+
+    def drawn(self):
+        """The package's modules that this file draws from."""
+        rows = [node for node in self.tree.body if isinstance(node, ast.ImportFrom)]
+        return sorted({node.module for node in rows if node.module != "__future__"})
+
+    def methods(self):
+        """The names of methods, each with its line."""
+        found = {}
+        for node in ast.walk(self.tree):
+            if isinstance(node, ast.ClassDef):
+                for inner in node.body:
+                    if isinstance(inner, ast.FunctionDef):
+                        found[inner.name] = inner.lineno
+        return found
+
+    def values(self):
+        """The names of the values that objects are given, each with its line."""
+        found = {}
+        for node in ast.walk(self.tree):
+            if isinstance(node, ast.Attribute) and isinstance(node.ctx, ast.Store):
+                found[node.attr] = node.lineno
+        return found
+
+    def check_locals(self):
+        taken = [node.name for node in self.tree.body if isinstance(node, ast.ClassDef)]
+        for node in self.tree.body:
+            if isinstance(node, ast.ImportFrom):
+                taken.extend(name.asname or name.name for name in node.names)
+        for top in self.tree.body:
+            for node in ast.walk(top) if isinstance(top, (ast.FunctionDef, ast.ClassDef)) else ():
+                name = node.arg if isinstance(node, ast.arg) else node.id if isinstance(node, ast.Name) else None
+                if name in taken and not isinstance(getattr(node, "ctx", None), ast.Load):
+                    self.breach("L15", node.lineno, f"{name} is a class or an import of this file")
 
     def check_rows(self):
         rows = self.text.split("\n")
@@ -196,6 +237,35 @@ class File:
                 self.breach("L25/L26", node.lineno, node.attr)
                 return
 
+    def check_call(self, node):
+        if isinstance(node.func, ast.Name) and node.func.id in WALKED:
+            self.check_walked(node, node.func.id)
+        if isinstance(node.func, ast.Attribute) and node.func.attr in WALKED_METHODS:
+            self.check_walked(node, node.func.attr)
+        if isinstance(node.func, ast.Name) and node.func.id in ("set", "frozenset"):
+            self.check_set(node)
+
+    def check_walked(self, node, name):
+        above = node.above
+        if isinstance(above, (ast.For, ast.comprehension)) and above.iter is node:
+            return
+        if isinstance(above, ast.Call) and node in above.args:
+            if isinstance(above.func, ast.Name) and above.func.id in WALKERS:
+                return
+            if isinstance(above.func, ast.Attribute) and above.func.attr == "join":
+                return
+        self.breach("L23", node.lineno, f"{name} isn't walked on the spot")
+
+    def check_set(self, node):
+        above = node.above
+        while isinstance(above, ast.BinOp):
+            above = above.above
+        if isinstance(above, ast.Compare):
+            return
+        if isinstance(above, ast.Call) and isinstance(above.func, ast.Name) and above.func.id in ("sorted", "len"):
+            return
+        self.breach("L24", node.lineno, "a set is kept or walked")
+
     def check_listcomp(self, node):
         if len(node.generators) != 1 or len(node.generators[0].ifs) > 1:
             self.breach("L7", node.lineno, "more than one for or if")
@@ -219,7 +289,30 @@ class File:
                 self.breach("L27", node.lineno, "no written exponent of 0 to 64")
 
 
-def check_folder(package, folder, top):
+def check_between(files):
+    breaches = []
+    methods = {}
+    values = {}
+    drawn = {}
+    for file in files:
+        methods.update({name: f"{file.path}:{line}" for name, line in file.methods().items()})
+        values.update({name: f"{file.path}:{line}" for name, line in file.values().items()})
+        drawn[file.package + "." + os.path.basename(file.path)[:-3]] = file.drawn()
+    for name in sorted(set(methods) & set(values)):
+        breaches.append(f"{values[name]}: L18: {name} is a method in {methods[name]}")
+    for module in sorted(drawn):
+        reached, waiting = set(), list(drawn[module])
+        while waiting:
+            other = waiting.pop()
+            if other not in reached:
+                reached.add(other)
+                waiting.extend(drawn.get(other, ()))
+        if module in reached:
+            breaches.append(f"{module}: L16: draws from itself in some steps")
+    return breaches
+
+
+def check_folder(package, folder, top, files):
     breaches = []
     names = sorted(name for name in os.listdir(folder) if name != "__pycache__")
     if "__init__.py" not in names:
@@ -231,16 +324,19 @@ def check_folder(package, folder, top):
         if not special and (not re.fullmatch(r"[a-z][a-z0-9_]*", stem) or stem in NO_FILES or hasattr(builtins, stem)):
             breaches.append(f"{path}: L14: such a name isn't used")
         if os.path.isdir(path):
-            breaches.extend(check_folder(package, path, False))
+            breaches.extend(check_folder(package, path, False, files))
         elif not name.endswith(".py"):
             breaches.append(f"{path}: L1: not a .py file")
         else:
-            breaches.extend(File(package, path, name == "__main__.py").check())
+            files.append(File(package, path, name == "__main__.py"))
+            breaches.extend(files[-1].check())
     return breaches
 
 
 def main(folder):
-    breaches = check_folder(os.path.basename(os.path.normpath(folder)), folder, True)
+    files = []
+    breaches = check_folder(os.path.basename(os.path.normpath(folder)), folder, True, files)
+    breaches.extend(check_between(files))
     for row in breaches:
         print(row)
     return 1 if breaches else 0
