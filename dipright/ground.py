@@ -11,6 +11,10 @@ def inside(rect, cell):
     return rect[LEFT] <= cell[0] <= rect[RIGHT] and rect[TOP] <= cell[1] <= rect[LOW]
 
 
+def has_one(rect, some):
+    return any([inside(rect, cell) for cell in some])
+
+
 def cells(rect):
     found = []
     for y in range(rect[TOP], rect[LOW] + 1):

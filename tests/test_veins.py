@@ -4,41 +4,19 @@ import random
 import unittest
 
 from dipright.errors import DiprightError, NoVein, OutOfGround
+from dipright.field import Field
 from dipright.veins import columns_at, courses, ore, own_course
 
 HUGE = 10 ** 40 - 1  # the greatest number of 40 figures
 STRAIGHT, EAST, WEST, SOUTH, NORTH = range(5)
 
 
-class Known:
-    """What a field tells of its veins, until there is one."""
-
-    def __init__(self, size, facts):
-        self.extent, self.found, self.joints = size, {}, {}
-        for day, fact in facts:
-            if fact[0] == "vein":
-                self.found[day] = fact[1:]
-            else:
-                self.joints[fact[1]] = fact[2:]
-
-    def size(self):
-        return self.extent
-
-    def veins(self):
-        return sorted(self.found)
-
-    def vein(self, name):
-        if name not in self.found:
-            raise NoVein
-        return self.found[name]
-
-    def joined(self, name):
-        self.vein(name)
-        return self.joints.get(name)
-
-
 def made(size, facts):
-    return Known(size, facts)
+    field = Field(*size, 400)
+    for day, fact in facts:
+        if field.enter(day, fact) != "good":
+            raise AssertionError(f"idle: {day} {fact}")
+    return field
 
 
 def own_cell(size, outcrop, steps, floor):
@@ -296,6 +274,10 @@ class CoursesTest(unittest.TestCase):
         facts = [(day, ("vein", (0,), ((0, day % 20),))) for day in range(1, 200)]
         facts += [(day + 199, ("join", day, day - 1, 1)) for day in range(2, 200)]
         self.check((1, 20, 1), facts, 199, [[(0, 19), (0, 1)]])
+        field = made((1, 20, 1), facts)
+        self.assertEqual(columns_at(field, (0, 1, 1)), [(day, 0) for day in range(1, 200)])
+        self.assertEqual(columns_at(field, (0, 2, 1)), [])
+        self.assertEqual(ore(field), sorted([(0, y, 0) for y in range(20)] + [(0, 1, 1)]))
 
     def test_no_such_vein(self):
         field = made((7, 5, 3), self.joined_at(1))
