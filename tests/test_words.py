@@ -153,6 +153,17 @@ class ReadFactTest(unittest.TestCase):
             self.assertEqual(told, fact)
             self.assertEqual(kinds(told), kinds(fact))
 
+    def test_numbers_of_each_count_of_figures(self):
+        for many in range(1, 41):
+            for one in (10 ** (many - 1), 10 ** many - 1):
+                for word, count in COUNTS.items():
+                    fact = (word,) + (one,) * count
+                    self.assertEqual(shown(fact), word + f" {one}" * count)
+                    self.assertEqual(read_fact(shown(fact)), fact)
+                fact = ("vein", (0, 9), ((one, 0), (0, one), (one, one)))
+                self.assertEqual(shown(fact), f"vein 09 {one},0 0,{one} {one},{one}")
+                self.assertEqual(read_fact(shown(fact)), fact)
+
     def test_facts_that_are_not_sound_are_read(self):
         for text, fact in (
             ("work 0", ("work", 0)),
