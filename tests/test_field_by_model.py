@@ -7,6 +7,7 @@ from dipright.field import Field
 from dipright.reach import by_dip, has_ground, reaching
 from dipright.title import heirs, holdings, open_ore, over, owner, title
 from dipright.veins import columns_at, courses, ore
+from helper import random_fact
 
 MOVES = {0: (0, 0), 1: (1, 0), 2: (-1, 0), 3: (0, 1), 4: (0, -1)}
 
@@ -152,39 +153,6 @@ class Model:
         return [(name, "dip") for name in dip] + [(name, "ground") for name in ground]
 
 
-def random_ground(source, size):
-    left, right = sorted((source.randrange(size[0]), source.randrange(size[0])))
-    top, low = sorted((source.randrange(size[1]), source.randrange(size[1])))
-    return left, top, right, low
-
-
-def random_fact(source, size, model):
-    def folk():
-        return source.randint(1, 4)
-
-    def cell():
-        return source.randrange(size[0]), source.randrange(size[1])
-
-    def known(names):
-        return source.choice(sorted(names)) if names and source.random() < 0.95 else source.randint(1, 60)
-
-    words = ["stake"] * 4 + ["vein"] * 3 + ["work"] * 4 + ["part"] * 4 + ["dig"] * 3 + ["sell", "sell", "give", "pay"]
-    word = source.choice(words + ["join"] * 3 if size[2] else words)
-    if word == "vein":
-        steps = tuple(source.randint(0, 4) for floor in range(size[2]))
-        return ("vein", steps, tuple(sorted({cell() for k in range(source.randint(1, 4))}, key=lambda one: source.random())))
-    return {
-        "join": ("join", known(model.veins), known(model.veins), source.randint(1, max(1, size[2]))),
-        "stake": ("stake", folk()) + random_ground(source, size),
-        "work": ("work", known(model.claims)),
-        "sell": ("sell", known(model.claims), folk()),
-        "part": ("part", known(model.claims), source.randrange(2), source.randint(1, 5), folk()),
-        "give": ("give", known(model.claims)),
-        "dig": ("dig", folk()) + cell() + cell() + (source.randint(0, size[2]), source.randint(1, 99)),
-        "pay": ("pay", 1 + source.randrange(2), 3 + source.randrange(2), source.randint(1, 99)),
-    }[word]
-
-
 def told(field):
     return (
         field.today(),
@@ -246,7 +214,7 @@ class ModelTest(unittest.TestCase):
             day = 0
             for round_number in range(60):
                 day += source.choice((1, 1, 1, 2, 3))
-                fact = random_fact(source, size, model)
+                fact = random_fact(source, size, model.veins, model.claims)
                 facts.append((day, fact))
                 word = model.enter(day, fact)
                 words.add((fact[0], word))
@@ -279,7 +247,7 @@ class ModelTest(unittest.TestCase):
             size = (4, 3, 2)
             field, model = Field(*size, 12), Model(size, 12)
             for day in range(1, 25):
-                fact = random_fact(source, size, model)
+                fact = random_fact(source, size, model.veins, model.claims)
                 self.assertEqual(field.enter(day, fact), model.enter(day, fact))
             for day in range(25, 40):
                 field.pass_to(day)
