@@ -2,8 +2,10 @@
 
 import unittest
 
-from dipright.errors import DiprightError
+from dipright.diary import Diary
+from dipright.errors import DiprightError, NoDeed
 from dipright.field import Field
+from dipright.title import title
 
 HUGE = 10 ** 40 - 1  # the greatest number of 40 figures
 # All signs that a text may have: from the blank to ~ but the percent sign, and line ends.
@@ -20,6 +22,44 @@ def entered(size, term, facts, day=None):
     if day is not None:
         field.pass_to(day)
     return field
+
+
+def kept(size, term, facts):
+    """A diary that was told these facts."""
+    diary = Diary(*size, term)
+    for day, fact in facts:
+        diary.tell(day, fact)
+    return diary
+
+
+def to_redo(diary):
+    """The deeds that redo would do, the next one first: asked of a twin, so that the diary stays."""
+    twin, deeds = diary.twin(), []
+    while True:
+        try:
+            twin.redo()
+        except NoDeed:
+            return deeds
+        deeds.append(twin.deeds()[-1])
+
+
+def all_of(diary):
+    """All that a diary keeps."""
+    return diary.size(), diary.term(), diary.deeds(), diary.facts(), to_redo(diary)
+
+
+def state_of(field):
+    """All that a field tells, but whose each spot is."""
+    return (
+        field.today(), field.size(), field.term(),
+        [(name, field.vein(name), field.joined(name)) for name in field.veins()],
+        [(name, field.claim(name), field.state(name), field.years(name)) for name in field.claims()],
+        field.standing(), field.entries(),
+    )
+
+
+def titles_of(field):
+    return {spot: title(field, spot) for spot in spots_of(field.size())}
 
 
 def spots_of(size):
