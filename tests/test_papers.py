@@ -645,7 +645,10 @@ class JudgeTest(Asked):
 
 
 class AllPapersTest(Asked):
-    """Point 16: those judged good name one claim, or are open, and it is the one to whom the spot belongs."""
+    """Point 16: those judged good name one claim, or are open, and it is the one to whom the spot belongs.
+
+    Made are all papers of the known claims and columns, of one year or two, and of rising others with some days.
+    """
 
     def all_papers(self, field, spot, days):
         claims = field.claims()
